@@ -1,0 +1,1 @@
+"""Who can have heard of what: stations, facts, letters and claims."""
