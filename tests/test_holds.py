@@ -1,228 +1,214 @@
-"""What holds, on many lines made from fixed seeds, against a slow model of the words."""
+"""What holds, a to f, on stations that stand still, move alike, meet, and on some made from fixed seeds."""
 
-import random
 import unittest
 from fractions import Fraction
 
-from asking import after, ask
+from asking import after, ask, look
+from desks import LOOKS, STILL, all_desks, every_look, letters_of, some_desk, some_line, stations_of
+from model import hears
+
+DESKS = all_desks(20)
+FACTS = range(6)
+CLOCKS = [(n, 2) for n in range(-30, 31)] + [(40, 1), (100, 1), (998, 1), (999, 1), (-999, 1), (1, 99), (-1, 99)]
+CLOCKS.sort(key=lambda clock: Fraction(*clock))
 
 
-def place_and_time(station, clock):
-    """By speed and slowed clock, not by light's two numbers as the program has it."""
-    t, x, p, q = station
-    k = Fraction(p, q)
-    slowed = (k + 1 / k) / 2
-    speed = (k * k - 1) / (k * k + 1)
-    return t + slowed * clock, x + slowed * speed * clock
+def at_all_clocks(rows, name, i):
+    """The facts that known or could tells at each of CLOCKS."""
+    given = look(rows, [(name, i, n, d) for n, d in CLOCKS])
+    return [set(answer[1:]) for answer in given]
 
 
-def hears(station, point):
-    """The one clock's number at which the station is as far off as it is later."""
-    t, x, p, q = station
-    k = Fraction(p, q)
-    found = set()
-    for clock in ((point[0] - point[1] - t + x) * k, (point[0] + point[1] - t - x) / k):
-        time, place = place_and_time(station, clock)
-        if time - point[0] == abs(place - point[1]):
-            found.add(clock)
-    (clock,) = found
-    return clock
+class Nobody(unittest.TestCase):
+    """a"""
+
+    def test_what_is_known_could_be(self):
+        for number, rows in enumerate(DESKS):
+            for i in stations_of(rows):
+                for known, could in zip(at_all_clocks(rows, "known", i), at_all_clocks(rows, "could", i)):
+                    self.assertLessEqual(known, could, (number, i))
+
+    def test_what_could_be_is_what_light_has_brought(self):
+        for number, rows in enumerate(DESKS):
+            told = [row[1:] for row in rows if row[0] == "station"]
+            where = look(rows, [("where", f) for f in FACTS])
+            points = [(Fraction(*answer[1:3]), Fraction(*answer[3:5])) for answer in where]
+            for i in stations_of(rows):
+                heard = [hears(told[i], point) for point in points]
+                for clock, could in zip(CLOCKS, at_all_clocks(rows, "could", i)):
+                    self.assertEqual(could, {f for f in FACTS if heard[f] <= Fraction(*clock)}, (number, i, clock))
+
+    def test_claims_of_what_cannot_have_been_heard_of(self):
+        for number, rows in enumerate(DESKS):
+            for i in stations_of(rows):
+                sets = list(zip(at_all_clocks(rows, "known", i), at_all_clocks(rows, "could", i)))
+                for f in FACTS:
+                    judged = after(rows, *[("claim", i, f, n, d) for n, d in CLOCKS])
+                    right = [[2] if f in known else [1] if f in could else [0] for known, could in sets]
+                    self.assertEqual(judged, right, (number, i, f))
+
+    def test_more_letters_do_not_change_what_could_be(self):
+        for stations in (STILL, DESKS[3][:4]):
+            facts = [("fact", f % 4, f, 1) for f in FACTS]
+            letters = [("letter", m % 4, (m + 1) % 4, m, 1) for m in range(6)]
+            for i in range(4):
+                self.assertEqual(at_all_clocks(stations + facts, "could", i),
+                                 at_all_clocks(stations + facts + letters, "could", i))
 
 
-class Model:
-    def __init__(self):
-        self.stations, self.facts, self.letters = [], [], []
+class GoesOn(unittest.TestCase):
+    """b"""
 
-    def point(self, i, clock):
-        return place_and_time(self.stations[i], clock)
-
-    def comes(self, m):
-        i, j, clock = self.letters[m]
-        return hears(self.stations[j], self.point(i, clock))
-
-    def contents(self):
-        """Fill all letters from one another till no more comes in."""
-        inside = [set() for m in self.letters]
-        while True:
-            more = [self.known(i, clock, inside) for i, j, clock in self.letters]
-            if more == inside:
-                return inside
-            inside = more
-
-    def known(self, i, clock, inside):
-        facts = {f for f, (at, when) in enumerate(self.facts) if at == i and when <= clock}
-        for m, (sender, receiver, sent) in enumerate(self.letters):
-            if receiver == i and self.comes(m) <= clock:
-                facts |= inside[m]
-        return facts
-
-    def judge(self, i, f, clock):
-        if f in self.known(i, clock, self.contents()):
-            return 2
-        at, when = self.facts[f]
-        return 1 if hears(self.stations[i], self.point(at, when)) <= clock else 0
-
-
-def pair(number):
-    return [number.numerator, number.denominator]
-
-
-def model_look(model, name, number):
-    table = {"is_station": model.stations, "factis": model.facts, "where": model.facts}
-    if number >= len(table.get(name, model.letters)):
-        return [-2]
-    if name == "is_station":
-        t, x, p, q = model.stations[number]
-        return [0, t, x] + pair(Fraction(p, q))
-    if name == "factis":
-        return [model.facts[number][0]] + pair(model.facts[number][1])
-    if name == "where":
-        time, place = model.point(*model.facts[number])
-        return [0] + pair(time) + pair(place)
-    if name == "letteris":
-        return list(model.letters[number][:2]) + pair(model.letters[number][2])
-    if name == "comes":
-        return [0] + pair(model.comes(number))
-    inside = sorted(model.contents()[number])
-    return [len(inside)] + inside
-
-
-def in_range(n, d):
-    return abs(n) <= 999 and 1 <= d <= 99
-
-
-def model_made(model, row):
-    """station, fact, letter"""
-    name, told = row[0], row[1:]
-    if name == "station":
-        if max(abs(told[0]), abs(told[1])) > 99 or min(told[2:]) < 1 or max(told[2:]) > 9:
-            return [-22]
-        rows, most, new = model.stations, 4, told
-    else:
-        if max(told[:-2]) >= len(model.stations):
-            return [-2]
-        if not in_range(*told[-2:]) or (name == "letter" and told[0] == told[1]):
-            return [-22]
-        rows, most = (model.facts if name == "fact" else model.letters), 6
-        new = told[:-2] + (Fraction(*told[-2:]),)
-    if len(rows) == most:
-        return [-28]
-    rows.append(new)
-    return [len(rows) - 1]
-
-
-def model_answer(model, row):
-    name, told = row[0], row[1:]
-    if name in ("station", "fact", "letter"):
-        return model_made(model, row)
-    if name in ("unfact", "unletter"):
-        rows = model.facts if name == "unfact" else model.letters
-        if not rows:
-            return [-6]
-        rows.pop()
-        return [len(rows)]
-    if name == "claim":
-        i, f, n, d = told
-        if i >= len(model.stations) or f >= len(model.facts):
-            return [-2]
-        return [model.judge(i, f, Fraction(n, d))] if in_range(n, d) else [-22]
-    return model_look(model, name, told[0])
-
-
-def some_clock(chance):
-    near = (chance.randint(-6, 6), chance.choice((1, 1, 1, 2, 3)))
-    edge = (chance.choice((-1000, -999, 999, 1000)), chance.choice((0, 1, 99, 100)))
-    return edge if chance.random() < 0.06 else near
-
-
-def some_row(chance):
-    name = chance.choice(("station", "fact", "fact", "letter", "letter", "letter", "unfact", "unletter", "claim",
-                          "claim", "claim", "is_station", "factis", "letteris", "where", "comes", "in_letter",
-                          "in_letter"))
-    if name == "station":
-        far = 3 if chance.random() < 0.9 else 101
-        return (name, chance.randint(-far, far), chance.randint(-far, far),
-                chance.choice((1, 1, 2, 3, 6, 9, 10)), chance.choice((1, 1, 2, 3, 4, 9, 0)))
-    if name in ("unfact", "unletter"):
-        return (name,) if chance.random() < 0.4 else ("in_letter", chance.randint(0, 6))
-    if name == "fact":
-        return (name, chance.randint(0, 4)) + some_clock(chance)
-    if name == "letter":
-        return (name, chance.randint(0, 3), chance.randint(0, 3)) + some_clock(chance)
-    if name == "claim":
-        return (name, chance.randint(0, 3), chance.randint(0, 6)) + some_clock(chance)
-    return (name, chance.randint(0, 6))
-
-
-def some_line(seed):
-    chance = random.Random(seed)
-    rows = [("station", 0, 0, 1, 1), ("station", 0, 0, 2, 1)] if seed % 2 else []
-    return rows + [some_row(chance) for count in range(120)]
-
-
-class AgainstTheModel(unittest.TestCase):
-    def test_lines_of_all_calls(self):
-        for seed in range(150):
-            model = Model()
-            rows = some_line(seed)
-            given = after([], *rows)
-            for number, row in enumerate(rows):
-                self.assertEqual(given[number], model_answer(model, row), (seed, number, row))
-
-
-def some_desk(seed):
-    chance = random.Random(seed)
-    rows = [("station", chance.randint(-2, 2), chance.randint(-2, 2), chance.randint(1, 3), chance.randint(1, 3))
-            for count in range(chance.randint(2, 4))]
-    stations = len(rows)
-    for count in range(6):
-        rows.append(("fact", chance.randrange(stations), chance.randint(-6, 6), chance.randint(1, 2)))
-        sender, receiver = chance.sample(range(stations), 2)
-        rows.append(("letter", sender, receiver, chance.randint(-6, 9), chance.randint(1, 2)))
-    return rows, stations
-
-
-class WhatHolds(unittest.TestCase):
     def test_who_knows_goes_on_knowing(self):
-        for seed in range(60):
-            rows, stations = some_desk(seed)
-            for i in range(stations):
-                for f in range(6):
-                    claims = [("claim", i, f, n, 2) for n in range(-30, 31)]
-                    judged = [answer[0] for answer in after(rows, *claims)]
-                    self.assertEqual(judged, sorted(judged), (seed, i, f))
+        for number, rows in enumerate(DESKS):
+            for i in stations_of(rows):
+                for name in ("known", "could"):
+                    told = at_all_clocks(rows, name, i)
+                    for before, behind in zip(told, told[1:]):
+                        self.assertLessEqual(before, behind, (number, i, name))
 
-    def test_in_a_letter_is_known_where_it_has_come(self):
-        for seed in range(60):
-            rows, stations = some_desk(seed)
-            for m in range(6):
-                inside, sent, came = after(rows, ("in_letter", m), ("letteris", m), ("comes", m))
+    def test_in_a_letter_is_known_where_it_is_sent_and_where_it_has_come(self):
+        for number, rows in enumerate(DESKS):
+            for m in letters_of(rows):
+                inside, sent, came = look(rows, [("in_letter", m), ("letteris", m), ("comes", m)])
                 self.assertEqual(inside[0], len(inside) - 1)
                 self.assertEqual(inside[1:], sorted(set(inside[1:])))
-                claims = [("claim", i, f, n, d) for f in inside[1:]
-                          for i, n, d in ((sent[0], *sent[2:]), (sent[1], *came[1:]))]
-                self.assertEqual(after(rows, *claims), [[2]] * len(claims), (seed, m))
+                self.assertEqual(look(rows, [("known", sent[0], *sent[2:])]), [inside])
+                if abs(came[1]) <= 999 and came[2] <= 99:
+                    known = look(rows, [("known", sent[1], *came[1:])])[0]
+                    self.assertLessEqual(set(inside[1:]), set(known[1:]), (number, m))
+                for knew in look(rows, [("knew", sent[1], f) for f in inside[1:]]):
+                    self.assertEqual(knew[0], 0, (number, m))
+                    self.assertLessEqual(Fraction(*knew[1:]), Fraction(*came[1:]), (number, m))
 
-    def test_not_known_ahead_of_where_light_can_bring_it(self):
-        for seed in range(60):
-            rows, stations = some_desk(seed)
-            told = [row[1:] for row in rows if row[0] == "station"]
-            for f in range(6):
-                point = after(rows, ("where", f))[0]
-                point = (Fraction(*point[1:3]), Fraction(*point[3:5]))
-                for i in range(stations):
-                    heard = hears(told[i], point)
-                    claims = [("claim", i, f, n, 2) for n in range(-30, 31)]
-                    for row, answer in zip(claims, after(rows, *claims)):
-                        self.assertEqual(answer == [0], Fraction(row[3], 2) < heard, (seed, row))
+
+class KnownFirst(unittest.TestCase):
+    """c"""
+
+    def test_known_from_then_on_and_not_sooner(self):
+        for number, rows in enumerate(DESKS):
+            for i in stations_of(rows):
+                known = at_all_clocks(rows, "known", i)
+                for f in FACTS:
+                    knew = look(rows, [("knew", i, f)])[0]
+                    right = [knew != [-33] and Fraction(*knew[1:]) <= Fraction(*clock) for clock in CLOCKS]
+                    self.assertEqual([f in facts for facts in known], right, (number, i, f))
+
+    def test_known_at_the_very_number(self):
+        for number, rows in enumerate(DESKS):
+            for i in stations_of(rows):
+                for f in FACTS:
+                    knew = look(rows, [("knew", i, f)])[0]
+                    if knew != [-33] and abs(knew[1]) <= 499 and knew[2] <= 9:
+                        n, d = knew[1], knew[2]
+                        then, before = look(rows, [("known", i, n, d), ("known", i, 2 * n - 1, 2 * d)])
+                        self.assertIn(f, then[1:], (number, i, f))
+                        self.assertNotIn(f, before[1:], (number, i, f))
+
+    def test_never_is_what_has_no_first(self):
+        for number, rows in enumerate(DESKS):
+            for i in stations_of(rows):
+                never = look(rows, [("never", i)])[0]
+                knew = look(rows, [("knew", i, f) for f in FACTS])
+                late = look(rows, [("late", i, f) for f in FACTS])
+                right = [f for f in FACTS if knew[f] == [-33]]
+                self.assertEqual(never, [len(right)] + right, (number, i))
+                self.assertEqual([f for f in FACTS if late[f] == [-33]], right, (number, i))
+
+    def test_never_sooner_than_it_could_be(self):
+        for number, rows in enumerate(DESKS):
+            for i in stations_of(rows):
+                for f in FACTS:
+                    first, knew, late = look(rows, [(name, i, f) for name in ("first", "knew", "late")])
+                    if knew != [-33]:
+                        self.assertEqual(Fraction(*late[1:]), Fraction(*knew[1:]) - Fraction(*first[1:]),
+                                         (number, i, f))
+                        self.assertGreaterEqual(late[1], 0, (number, i, f))
+
+
+class SoonerForAll(unittest.TestCase):
+    """d"""
+
+    def test_what_can_have_been_heard_of(self):
+        seen = set()
+        for number, rows in enumerate(DESKS):
+            for f in FACTS:
+                for g in FACTS:
+                    heard, back = look(rows, [("heard", f, g), ("heard", g, f)])
+                    seen.add(heard[0])
+                    self.assertEqual(back, [{0: 2, 1: 1, 2: 0, 3: 3}[heard[0]]], (number, f, g))
+                    if heard != [3]:
+                        for sooner in look(rows, [("sooner", i, f, g) for i in stations_of(rows)]):
+                            self.assertEqual(sooner, heard, (number, f, g))
+        self.assertEqual(seen, {0, 1, 2, 3})
+
+    def test_sooner_as_own_times_are(self):
+        for number, rows in enumerate(DESKS):
+            for i in stations_of(rows):
+                own = [Fraction(*answer[1:3]) for answer in look(rows, [("own", i, f) for f in FACTS])]
+                pairs = [(f, g) for f in FACTS for g in FACTS]
+                given = look(rows, [("sooner", i, f, g) for f, g in pairs])
+                right = [[(own[f] >= own[g]) + (own[f] > own[g])] for f, g in pairs]
+                self.assertEqual(given, right, (number, i))
+
+
+class Claims(unittest.TestCase):
+    """e"""
+
+    def test_no_more_than_were_made(self):
+        for number, rows in enumerate(DESKS):
+            asked = [("claim", i, f, n, 2) for i in stations_of(rows) for f in FACTS for n in (-40, 0, 9, 90)]
+            mixed = [row for claim in asked for row in (claim, ("book",))]
+            given = after(rows, *mixed)
+            made = impossible = 0
+            for judged, book in zip(given[::2], given[1::2]):
+                made += 1
+                impossible += judged == [0]
+                self.assertEqual(book, [made, impossible], number)
+                self.assertLessEqual(book[1], book[0])
+
+
+CHANGES = [("station", 1, 1, 2, 3), ("fact", 0, 1, 2), ("letter", 1, 0, 3, 2), ("unfact",), ("unletter",),
+           ("claim", 0, 0, -9, 1), ("claim", 0, 0, 99, 1)]
+
+
+class TakenBack(unittest.TestCase):
+    """f"""
+
+    def test_all_is_as_it_was(self):
+        for number, rows in enumerate(DESKS):
+            looks = every_look(rows)
+            right = look(rows, looks)
+            for change in CHANGES:
+                changed, back, state = after(rows, change, ("back",), ("state",))
+                if changed[0] >= 0:
+                    self.assertEqual(back, [9], (number, change))
+                    self.assertEqual(look(rows + [change, ("back",)], looks), right, (number, change))
+                    self.assertEqual(state[:3], look(rows, [("state",)])[0][:3])
+
+    def test_each_of_ten_steps_back(self):
+        steps = [CHANGES[number % len(CHANGES)] for number in (1, 2, 5, 0, 1, 3, 2, 4, 6, 5)]
+        start = [("station", 0, 0, 1, 1), ("station", 0, 2, 1, 2), ("fact", 1, 0, 1), ("letter", 1, 0, 0, 1)]
+        self.assertTrue(all(answer[0] >= 0 for answer in after(start, *steps)))
+        looks = every_look(start)
+        for gone in range(11):
+            taken = look(start + steps + [("back",)] * gone, looks)
+            self.assertEqual(taken, look(start + steps[:10 - gone], looks), gone)
 
     def test_refused_and_looking_change_nothing(self):
         for seed in range(40):
-            rows = some_line(seed)
-            given = after([], *rows)
-            looks = ("is_station", "factis", "letteris", "where", "comes", "in_letter")
-            kept = [k for k, row in enumerate(rows) if given[k][0] >= 0 and row[0] not in looks]
-            self.assertEqual(ask(("begin",), *[rows[k] for k in kept])[1:], [given[k] for k in kept], seed)
+            rows = some_line(seed, 256)
+            given = ask(*rows)
+            kept = [k for k, row in enumerate(rows) if given[k][0] >= 0 and row[0] not in LOOKS]
+            self.assertEqual(ask(*[rows[k] for k in kept]), [given[k] for k in kept], seed)
+
+    def test_looks_twice_and_backwards(self):
+        for seed in range(10):
+            rows = some_desk(seed)
+            looks = every_look(rows)
+            once = look(rows, looks)
+            self.assertEqual(look(rows, looks + looks), once + once)
+            self.assertEqual(look(rows, looks[::-1]), once[::-1])
 
 
 if __name__ == "__main__":

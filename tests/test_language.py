@@ -99,6 +99,13 @@ class Forms(unittest.TestCase):
                     self.assertIsNone(name.asname)
                     self.assertIn(name.name, bound_names(source))
 
+    def test_no_two_files_draw_from_one_another(self):
+        drawn = {path.stem: {node.module.split(".")[1] for node in walk(path, ast.ImportFrom)} for path in FILES}
+        while drawn:
+            free = [stem for stem in drawn if not drawn[stem] & set(drawn)]
+            self.assertNotEqual(free, [], drawn)
+            drawn = {stem: drawn[stem] for stem in drawn if stem not in free}
+
     def test_every_import_is_used(self):
         for path in FILES:
             used = {node.id for node in walk(path, ast.Name)}

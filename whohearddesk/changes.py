@@ -1,19 +1,16 @@
-"""The calls that begin and change: promises 1 and 2.
+"""The calls that begin, change and take back: promises 1 and 2.
 
 Each takes the desk and its whole numbers and answers a list; refusals are
 asked in the order in which the promise tells them.
 """
 
-from whohearddesk.desk import Fact, Letter, State, has_fact, has_station, start_change
+from whohearddesk.desk import Fact, Letter, State, has_fact, has_station, start_change, take_back
 from whohearddesk.knowing import could_know, facts_known
+from whohearddesk.limits import is_clock_number, is_factor_part, is_near
 from whohearddesk.motion import Station, hears, point_at
 from whohearddesk.ratio import fraction
 from whohearddesk.refusals import NONE_LEFT, NO_SUCH, OUT_OF_RANGE, TOO_MANY
 
-FARTHEST = 99
-GREATEST_FACTOR = 9
-GREATEST_N = 999
-GREATEST_D = 99
 MOST_STATIONS = 4
 MOST_FACTS = 6
 MOST_LETTERS = 6
@@ -22,22 +19,17 @@ POSSIBLE = 1
 KNOWN = 2
 
 
-def is_near(number):
-    return -FARTHEST <= number <= FARTHEST
-
-
-def is_factor_part(number):
-    return 1 <= number <= GREATEST_FACTOR
-
-
-def is_clock_number(n, d):
-    return -GREATEST_N <= n <= GREATEST_N and 1 <= d <= GREATEST_D
-
-
 def begin(desk):
     desk.state = State()
     desk.past = []
     return [0]
+
+
+def back(desk):
+    if len(desk.past) == 0:
+        return [NONE_LEFT]
+    take_back(desk)
+    return [len(desk.past)]
 
 
 def station(desk, t, x, p, q):
@@ -114,4 +106,4 @@ def claim(desk, i, f, n, d):
     return [verdict]
 
 
-CHANGES = {0: begin, 1: station, 2: fact, 3: letter, 4: unfact, 5: unletter, 6: claim}
+CHANGES = {0: begin, 1: station, 2: fact, 3: letter, 4: unfact, 5: unletter, 6: claim, 23: back}

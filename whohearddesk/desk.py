@@ -56,6 +56,11 @@ def start_change(desk):
     return desk.state
 
 
+def take_back(desk):
+    desk.state = desk.past[-1]
+    desk.past = desk.past[:-1]
+
+
 def has_station(state, i):
     return 0 <= i < len(state.stations)
 

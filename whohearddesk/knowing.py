@@ -1,7 +1,7 @@
-"""What is known, and what could be known, at a station when its clock shows a number."""
+"""What is known, and what could be known, at a station when its clock shows a number; and from when on."""
 
 from whohearddesk.motion import hears
-from whohearddesk.ratio import at_most
+from whohearddesk.ratio import at_most, lesser_of
 
 
 # A moment is a pair: a station's number and its clock's. Those behind one are itself
@@ -39,6 +39,21 @@ def facts_known(state, station, clock):
     return known
 
 
+def first_known(state, station, f):
+    # It becomes known only where it came to be, or when a letter comes that has it.
+    fact = state.facts[f]
+    least = None
+    if fact.station == station:
+        least = fact.when
+    for letter in state.letters:
+        if letter.receiver == station and f in facts_known(state, letter.sender, letter.sent):
+            least = letter.arrives if least is None else lesser_of(least, letter.arrives)
+    return least
+
+
+def first_heard(state, station, f):
+    return hears(state.stations[station], state.facts[f].point)
+
+
 def could_know(state, station, f, clock):
-    heard = hears(state.stations[station], state.facts[f].point)
-    return at_most(heard, clock)
+    return at_most(first_heard(state, station, f), clock)

@@ -3,16 +3,13 @@
 from whohearddesk.changes import CHANGES
 from whohearddesk.desk import Desk
 from whohearddesk.looks import LOOKS
+from whohearddesk.news import NEWS
+from whohearddesk.order import ORDER
 from whohearddesk.refusals import NOT_BEGUN
 
 BEGIN = 0
-# How many whole numbers stand behind each call's own, by that number: those of
-# calls that are not built yet too, since ahead of a begin they are passed over.
+# How many whole numbers stand behind each call's own, by that number.
 ARGUMENTS = (0, 4, 3, 4, 0, 0, 4, 1, 1, 1, 1, 1, 1, 3, 3, 2, 2, 2, 2, 3, 2, 1, 0, 0, 0)
-
-
-class NotBuilt(Exception):
-    pass
 
 
 def answers(calls):
@@ -36,7 +33,9 @@ def answer_to(desk, number, told):
         return call_with(CHANGES[number], desk, told)
     if number in LOOKS:
         return call_with(LOOKS[number], desk, told)
-    raise NotBuilt(f"call {number} is not built yet")
+    if number in NEWS:
+        return call_with(NEWS[number], desk, told)
+    return call_with(ORDER[number], desk, told)
 
 
 def call_with(call, desk, told):
@@ -44,6 +43,8 @@ def call_with(call, desk, told):
         return call(desk)
     if len(told) == 1:
         return call(desk, told[0])
+    if len(told) == 2:
+        return call(desk, told[0], told[1])
     if len(told) == 3:
         return call(desk, told[0], told[1], told[2])
     return call(desk, told[0], told[1], told[2], told[3])

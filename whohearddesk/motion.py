@@ -1,6 +1,10 @@
 """Points on the line, stations that move along it, and when one hears of a point."""
 
-from whohearddesk.ratio import add, divide, fraction, greater_of, half, multiply, subtract
+from whohearddesk.ratio import add, at_most, divide, fraction, greater_of, half, lesser_of, multiply, subtract
+
+THERE = 0
+ON_THE_RIGHT = 1
+ON_THE_LEFT = 2
 
 
 # A point is kept as its time less place (minus) and its time and place together
@@ -45,6 +49,33 @@ def clock_by_plus(station, point):
 
 def hears(station, point):
     return greater_of(clock_by_minus(station, point), clock_by_plus(station, point))
+
+
+def till(station, point):
+    return lesser_of(clock_by_minus(station, point), clock_by_plus(station, point))
+
+
+def own_time(station, point):
+    return half(add(hears(station, point), till(station, point)))
+
+
+def own_place(station, point):
+    return half(subtract(hears(station, point), till(station, point)))
+
+
+def side(station, point):
+    by_minus = clock_by_minus(station, point)
+    by_plus = clock_by_plus(station, point)
+    if by_minus == by_plus:
+        return THERE
+    if at_most(by_minus, by_plus):
+        return ON_THE_RIGHT
+    return ON_THE_LEFT
+
+
+def can_have_heard(point, other):
+    # Light from the other has come there both ways, or just comes.
+    return at_most(other.minus, point.minus) and at_most(other.plus, point.plus)
 
 
 def time_of(point):

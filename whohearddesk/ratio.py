@@ -48,3 +48,9 @@ def greater_of(a, b):
     if at_most(a, b):
         return b
     return a
+
+
+def lesser_of(a, b):
+    if at_most(a, b):
+        return a
+    return b
